@@ -1,0 +1,1 @@
+"""Proofs of equations, and a small checker."""
