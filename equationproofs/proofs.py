@@ -1,7 +1,7 @@
-"""Proofs: how their lines are read behind others, the faults of these, and the lines under a line."""
+"""Proofs: how their lines are read behind others, the faults of these, and what is under a line."""
 
 from equationproofs.signatures import fits, sort_of
-from equationproofs.terms import Term, form_of, in_bounds, read_term, replaced
+from equationproofs.terms import Term, in_bounds, read_term, replaced
 from equationproofs.texts import Fault, decimal, is_name, lines_of
 
 MOST_LINES = 300
@@ -56,7 +56,7 @@ def read_trans(words, lines, signature, rules):
     told = [decimal(word) for word in words[1:]]
     first = lines[told[0]]
     second = lines[told[1]]
-    if form_of(first.right) != form_of(second.left):
+    if first.right.form != second.left.form:
         return 5
     return Line(words, told, first.left, second.right, first.gives)
 
@@ -141,3 +141,35 @@ def lines_under(lines, number):
             for told in lines[place].told:
                 under[told] = True
     return sorted(list(under))
+
+
+# The numbers of the rules that the lines under the line are made by.
+def rules_under(lines, number):
+    used = {}
+    for place in lines_under(lines, number):
+        words = lines[place].words
+        if words[0] == "rule":
+            used[decimal(words[1])] = True
+    return sorted(list(used))
+
+
+# The text of the proof that has just the lines under the line.
+def part_text(lines, number):
+    under = lines_under(lines, number)
+    places = dict([(old, new) for new, old in enumerate(under)])
+    return "".join([renumbered(lines[old], places) for old in under])
+
+
+# Places is a dict from the numbers of the lines to their new ones. The numbers that a line tells are its last words.
+def renumbered(line, places):
+    ahead = len(line.words) - len(line.told)
+    return " ".join(line.words[:ahead] + [str(places[told]) for told in line.told]) + "\n"
+
+
+# The numbers of the lines that say that just these two terms are equal.
+def lines_saying(lines, left, right):
+    return [number for number, line in enumerate(lines) if is_said(line, left, right)]
+
+
+def is_said(line, left, right):
+    return line.left.form == left.form and line.right.form == right.form

@@ -9,13 +9,20 @@ MOST_DEPTH = 40
 
 
 # The token is what the form begins with: a numeral, ? and an unknown's name, or an operator's name.
-# Nodes and depth are kept, since terms may share parts and then be far greater than what was read.
+# Nodes, depth and form are kept, since terms may share parts and then be far greater than what was read.
 class Term:
     def __init__(self, token, parts):
         self.token = token
         self.parts = parts
         self.nodes = 1 + sum([part.nodes for part in parts])
         self.depth = 1 + max([part.depth for part in parts], default=0)
+        self.form = form_of(token, parts)
+
+
+def form_of(token, parts):
+    if len(parts) == 0:
+        return token
+    return token + "(" + ",".join([part.form for part in parts]) + ")"
 
 
 def is_unknown(term):
@@ -30,14 +37,12 @@ def in_bounds(term):
     return term.nodes <= MOST_NODES and term.depth <= MOST_DEPTH
 
 
-def form_of(term):
-    if len(term.parts) == 0:
-        return term.token
-    return term.token + "(" + ",".join([form_of(part) for part in term.parts]) + ")"
+def has_unknowns(term):
+    return "?" in term.form
 
 
 def equation_form(left, right):
-    return form_of(left) + " = " + form_of(right)
+    return left.form + " = " + right.form
 
 
 # The words that come out may still be no tokens; they are judged where they are used.

@@ -4,6 +4,7 @@ from equationproofs.checker import answers
 
 NUMBERS = {
     "signature": 0, "rule": 1, "show": 2, "proof": 3, "line": 4, "drop": 5, "text": 6, "says": 7, "under": 8,
+    "leans": 9, "part": 10, "find": 11, "world": 12, "table": 13, "value": 14, "holds": 15, "true": 16,
 }
 
 
@@ -63,6 +64,23 @@ EXAMPLE = (
 SORTED_SIGNATURE = lines(
     "sorts num list", "nil list", "cons num list list", "head list num", "three num list num list", "zero num", "neg num num",
 )
+# An object of which nothing is as it is in a new one, and calls that show all that it holds and leave it as it is.
+CHANGED = (
+    ("signature", SORTED_SIGNATURE), ("rule", "head(cons(?x,?y)) = ?x"), ("rule", "neg(neg(?x)) = ?x"), ("rule", "zero = ?x"),
+    ("proof", lines("rule 1 x=5", "refl 7", "sym 0", "cong neg 2", "rule 2 x=4")),
+    ("world", 3), ("table", "neg", [0, 2, 1]), ("table", "zero", [2]),
+)
+SHOWN = (
+    ("show", 0), ("show", 1), ("show", 2), ("show", 3), ("text",), ("says", 3), ("under", 3), ("leans", 3), ("part", 3),
+    ("find", "7=7"), ("value", "5"), ("value", "neg(zero)"), ("value", "head(nil)"), ("holds", 0), ("holds", 1), ("holds", 2),
+    ("true",), ("line", "refl neg(none)"), ("table", "zero", [2]),
+)
+
+
+def shown_behind(*calls):
+    """What the calls answer on the changed object, and what it shows then."""
+    found = ask(*CHANGED, *calls, *SHOWN)
+    return found[len(CHANGED):len(CHANGED) + len(calls)], found[len(CHANGED) + len(calls):]
 
 
 def nested(name, depth, leaf):

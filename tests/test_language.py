@@ -191,6 +191,81 @@ class Language(unittest.TestCase):
                     if node.func.id in ("zip", "enumerate", "reversed", "range", "set"):
                         self.assertIn(node, walked, f"{path.name}:{node.lineno}")
 
+    def test_keywords(self):
+        allowed = {"sorted": {"key", "reverse"}, "min": {"key", "default"}, "max": {"key", "default"}, "sum": {"start"},
+                   "enumerate": {"start"}, "zip": {"strict"}}
+        own = {node.name for place, node in self.nodes(ast.FunctionDef)}
+        for place, node in self.nodes(ast.Call):
+            if node.keywords:
+                self.assertIsInstance(node.func, ast.Name, place)
+                if node.func.id not in own:
+                    self.assertLessEqual({keyword.arg for keyword in node.keywords}, allowed.get(node.func.id, set()), place)
+
+    def test_names_of_the_top_are_only_read(self):
+        for path, tree in self.trees:
+            kept = {}
+            for node in tree.body:
+                if isinstance(node, ast.Assign) and isinstance(node.value, (ast.List, ast.Dict)):
+                    kept[node.targets[0].id] = node
+                    for inner in ast.walk(node.value):
+                        self.assertFalse(inner is not node.value and isinstance(inner, (ast.List, ast.Dict)), path)
+            read = set()
+            for node in ast.walk(tree):
+                if isinstance(node, ast.Subscript) and isinstance(node.ctx, ast.Load):
+                    read.add(node.value)
+                elif isinstance(node, ast.Compare):
+                    read.update(node.comparators)
+                elif isinstance(node, (ast.For, ast.comprehension)):
+                    read.add(node.iter)
+            for node in ast.walk(tree):
+                if isinstance(node, ast.Name) and isinstance(node.ctx, ast.Load) and node.id in kept:
+                    self.assertIn(node, read, f"{path.name}:{node.lineno}")
+
+    def test_classes_are_called_or_asked_for(self):
+        classes = {node.name for place, node in self.nodes(ast.ClassDef)}
+        for path, tree in self.trees:
+            used = set()
+            for node in ast.walk(tree):
+                if isinstance(node, ast.Call):
+                    used.add(node.func)
+                    if isinstance(node.func, ast.Name) and node.func.id == "isinstance":
+                        used.add(node.args[1])
+                elif isinstance(node, ast.ClassDef):
+                    used.update(node.bases)
+                elif isinstance(node, ast.ExceptHandler):
+                    used.add(node.type)
+            for node in ast.walk(tree):
+                if isinstance(node, ast.Name) and node.id in classes:
+                    self.assertIn(node, used, f"{path.name}:{node.lineno}")
+
+    def test_own_values_are_no_methods(self):
+        methods = {inner.name for place, node in self.nodes(ast.ClassDef) for inner in node.body}
+        stored = {node.attr for place, node in self.nodes(ast.Attribute) if isinstance(node.ctx, ast.Store)}
+        self.assertEqual(methods & stored, set())
+        for place, node in self.nodes(ast.Attribute):
+            if isinstance(node.ctx, ast.Store):
+                self.assertIsInstance(node.value, ast.Name, place)
+
+    def test_errors(self):
+        for place, node in self.nodes(ast.ExceptHandler):
+            self.assertIsNotNone(node.type, place)
+            for inner in ast.walk(node.type):
+                if isinstance(inner, ast.Name):
+                    self.assertNotIn(inner.id, ("Exception", "TypeError"), place)
+
+    def test_sets_and_escapes(self):
+        for path, tree in self.trees:
+            beside = set()
+            for node in ast.walk(tree):
+                if isinstance(node, ast.Compare):
+                    beside.update([node.left] + node.comparators)
+                elif isinstance(node, ast.Call) and isinstance(node.func, ast.Name) and node.func.id in ("sorted", "len"):
+                    beside.update(inner for inner in ast.walk(node.args[0]))
+            for node in ast.walk(tree):
+                if isinstance(node, ast.Call) and isinstance(node.func, ast.Name) and node.func.id in ("set", "frozenset"):
+                    self.assertIn(node, beside, f"{path.name}:{node.lineno}")
+            self.assertIsNone(re.search(r"""\\[^nt\\'"]""", path.read_text()), path)
+
 
 if __name__ == "__main__":
     unittest.main()
